@@ -1,0 +1,1 @@
+"""Skyframes: tellings from far away, in frames."""
