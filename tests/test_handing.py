@@ -6,6 +6,10 @@ from skyframes.craft import Craft
 from skyframes.errors import SkyError
 from skyframes.frames import frames_of, rows_of
 from skyframes.ground import Ground
+from skyframes.judging import judged
+from skyframes.plays import played, read, written
+from skyframes.room import least_windows, most_kept, short_at
+from skyframes.sky import Sky
 
 FIVE = (1, 2, 3, 4, 5)
 
@@ -29,6 +33,17 @@ def busy_ground():
         ground.hear(frames[at])
     ground.never([(0, 0)])
     return ground
+
+
+def busy_sky():
+    """Make a sky that keeps and lost frames, has rows, and letters of all kinds on its roads."""
+    sky = Sky(8, 3)
+    for step in (
+        *[("tell", 0, FIVE)] * 6, ("tell", 2, FIVE), ("begin",), ("beat",), ("lose", "down", 0), ("beat",),
+        ("hear", "down", 0), ("beat",), ("ask",), ("ask",), ("hear", "up", 0), ("twice", "down", 1), ("beat",),
+    ):
+        sky.do(step)
+    return sky
 
 
 def spoil(told):
@@ -157,6 +172,100 @@ class HandingTest(unittest.TestCase):
         for _ in range(2):
             ground.has(), ground.wants(), ground.rows(0)
         self.assertIs(ground.hear(frames_of(0, [FIVE] * 6, 8)[2]), True)
+
+
+class SkyHandingTest(unittest.TestCase):
+    def spoil_shown(self, shown):
+        kept, lost, rows, _, _ = shown
+        for told in (kept, lost, *rows, rows):
+            told.append("spoilt")
+            told.reverse()
+
+    def test_shown_and_its_inner_lists_are_the_askers(self):
+        sky = busy_sky()
+        due = sky.shown()
+        self.assertTrue(all(due[:2]) and due[2][0] and due[3] == 3 and due[4] == 1)
+        self.assertIsInstance(due, tuple)
+        self.spoil_shown(sky.shown())
+        self.assertEqual(sky.shown(), due)
+        sky.do(("hear", "down", 0))
+        sky.do(("beat",))
+        other = busy_sky()
+        other.do(("hear", "down", 0))
+        other.do(("beat",))
+        self.assertEqual((sky.shown(), sky.log()), (other.shown(), other.log()))
+
+    def test_a_log_is_the_askers(self):
+        sky = busy_sky()
+        due = sky.log()
+        spoil(sky.log())
+        self.assertEqual(sky.log(), due)
+        sky.do(("hear", "down", 0))
+        self.assertEqual(sky.log()[:-1], due)
+        self.assertEqual(due, busy_sky().log())
+
+    def test_a_log_is_of_tuples(self):
+        for entry in busy_sky().log():
+            self.assertIs(type(entry), tuple)
+            for part in entry:
+                self.assertIn(type(part), (str, int, tuple))
+                self.assertNotIn(list, [type(inner) for inner in part] if type(part) is tuple else [])
+
+    def test_asking_changes_nothing(self):
+        sky, other = busy_sky(), busy_sky()
+        for _ in range(3):
+            sky.shown(), sky.log()
+        for step in (("beat",), ("hear", "up", 0), ("beat",), ("settle",)):
+            self.assertEqual(sky.do(step), other.do(step))
+        self.assertEqual((sky.shown(), sky.log()), (other.shown(), other.log()))
+
+    def test_a_letter_stays_as_it_was_laid(self):
+        sky = busy_sky()
+        sky.do(("ask",))
+        self.spoil_shown(sky.shown())
+        spoil(sky.log())
+        sky.do(("settle",))
+        self.assertEqual(sky.shown()[0], [])
+        self.assertIsNone(judged(8, sky.log()))
+
+    def test_judged_leaves_its_log(self):
+        log = busy_sky().log()
+        copy = list(log)
+        self.assertIsNone(judged(8, log))
+        self.assertEqual(log, copy)
+        self.assertEqual(judged(8, log[1:]), judged(8, copy[1:]))
+        self.assertIsNone(judged(8, log))
+
+    def test_plays_leave_their_steps(self):
+        steps = [("tell", 0, FIVE), ("close", 4), ("begin",), ("beat",), ("settle",)]
+        copy = list(steps)
+        told, sky = played(8, 5, steps)
+        text = written(steps)
+        self.assertEqual(steps, copy)
+        before = (sky.shown(), sky.log())
+        spoil(steps)
+        spoil(told)
+        self.assertEqual((sky.shown(), sky.log()), before)
+        self.assertEqual(written(copy), text)
+        found = read(text)
+        spoil(found)
+        self.assertEqual(read(text), copy)
+        self.assertEqual(played(8, 5, copy)[0], [0, "no", True, (0, 0), None])
+
+    def test_plays_are_apart(self):
+        steps = [("tell", 0, FIVE), ("begin",), ("beat",)]
+        _, one = played(8, 5, steps)
+        _, other = played(8, 5, steps)
+        before = (other.shown(), other.log())
+        one.do(("settle",))
+        self.assertEqual((other.shown(), other.log()), before)
+
+    def test_plans_are_told_the_same_again(self):
+        makes, windows = (2, 0, 3, 1), ((0, 1), (2, 3))
+        for _ in range(2):
+            self.assertEqual(most_kept(makes, windows), 4)
+            self.assertEqual(short_at(makes, windows, 3), 2)
+            self.assertEqual(least_windows(makes, 4), ((1, 3),))
 
 
 if __name__ == "__main__":

@@ -31,6 +31,8 @@ def names_of(tree):
             names.add(node.arg)
         elif isinstance(node, ast.alias):
             names.add(node.name)
+        elif isinstance(node, (ast.MatchAs, ast.MatchStar)) and node.name is not None:
+            names.add(node.name)
     return names
 
 
